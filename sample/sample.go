@@ -1,8 +1,11 @@
-// Package sample: tensors for the tests of the layers, told by a seed.
+// Package sample: tensors and nets for the tests of the layers.
 package sample
 
 import (
+	"strings"
+
 	"pedagogue/api"
+	"pedagogue/model"
 	"pedagogue/prng"
 )
 
@@ -41,4 +44,10 @@ func Sums(seed uint64, bits, exp int, dims ...int) api.Acc {
 		a.Data[i] = int32(drawn)
 	}
 	return a
+}
+
+// Net is the net of a text whose lines have "; " between.
+func Net(text string) api.Model {
+	m, _, _ := model.Parse(strings.ReplaceAll(text, "; ", "\n") + "\n")
+	return m
 }
