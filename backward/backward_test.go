@@ -260,6 +260,7 @@ func TestErrorsOfWhatComesTwice(t *testing.T) {
 		"in 1 1 1; relu; add 0":                    1,
 		"in 1 1 1; relu; relu; add 1":              2,
 		"in 1 1 1; relu; relu; relu; add 1; add 1": 4,
+		"in 1 1 1; relu; relu; add 1; add 2":       3,
 		"in 1 1 1; relu; relu; add 0; add 0":       3,
 		"in 1 1 1; relu; add 0; relu; relu; flat":  1,
 	}

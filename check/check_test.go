@@ -10,18 +10,8 @@ import (
 
 	"pedagogue/api"
 	"pedagogue/check"
-	"pedagogue/model"
+	"pedagogue/sample"
 )
-
-// net is the net of a text whose lines have "; " between.
-func net(t *testing.T, text string) api.Model {
-	t.Helper()
-	m, line, e := model.Parse(strings.ReplaceAll(text, "; ", "\n") + "\n")
-	if e != api.OK {
-		t.Fatalf("%q: line %d, %d", text, line, e)
-	}
-	return m
-}
 
 // dims tells shapes as a text.
 func dims(shapes [][]int) string {
@@ -48,7 +38,7 @@ func TestShapes(t *testing.T) {
 		"in 1 1 4; flat; dense 4; add 1; dense 9; dense 1":     "1 1 4; 4; 4; 4; 9; 1",
 	}
 	for text, want := range known {
-		shapes, number, e := check.Shapes(net(t, text))
+		shapes, number, e := check.Shapes(sample.Net(text))
 		if e != api.OK || number != 0 || dims(shapes) != want {
 			t.Errorf("%q: %s, %d, %d; want %s", text, dims(shapes), number, e, want)
 		}
@@ -78,7 +68,7 @@ func TestShapesThatDoNotGoTogether(t *testing.T) {
 		"in 1 1 4; flat; dense 4; relu; add 1; add 0": 5,
 	}
 	for text, want := range known {
-		m := net(t, text)
+		m := sample.Net(text)
 		shapes, number, e := check.Shapes(m)
 		if e != api.ErrShape || number != want || len(shapes) != 0 {
 			t.Errorf("%q: %s, %d, %d; want layer %d", text, dims(shapes), number, e, want)
@@ -110,7 +100,7 @@ func TestNoModel(t *testing.T) {
 
 // R2: no two shapes share memory.
 func TestShapesAreNew(t *testing.T) {
-	m := net(t, "in 1 4 4; relu; add 0; relu; flat; relu; add 4; dense 4")
+	m := sample.Net("in 1 4 4; relu; add 0; relu; flat; relu; add 4; dense 4")
 	shapes, _, _ := check.Shapes(m)
 	for i := range shapes {
 		for k := range shapes[i] {
@@ -188,7 +178,7 @@ func verdicts() []verdict {
 // P16.2, P16.3: Net's errors in their order, with the layer; Longest.
 func TestNetAndLongest(t *testing.T) {
 	for _, v := range verdicts() {
-		m := net(t, v.text)
+		m := sample.Net(v.text)
 		if number, e := check.Net(m, v.classes, v.batch); number != v.number || e != v.e {
 			t.Errorf("Net(%q, %d, %d): layer %d, %d; want layer %d, %d", v.text, v.classes, v.batch, number, e, v.number, v.e)
 		}
@@ -196,7 +186,7 @@ func TestNetAndLongest(t *testing.T) {
 			t.Errorf("Longest(%q, %d): %d, want %d", v.text, v.batch, longest, v.longest)
 		}
 	}
-	m := net(t, "in 1 1 2; flat; dense 3")
+	m := sample.Net("in 1 1 2; flat; dense 3")
 	for _, far := range []int{math.MinInt, math.MaxInt} {
 		if _, e := check.Net(m, far, 1); e != api.ErrArg {
 			t.Errorf("%d classes: %d", far, e)

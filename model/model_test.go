@@ -145,6 +145,23 @@ func TestMayLayer(t *testing.T) {
 			}
 		}
 	}
+	for out := -1; out <= 9; out++ {
+		for k := -1; k <= 6; k++ {
+			for stride := -1; stride <= 5; stride++ {
+				for pad := -1; pad <= 6; pad++ {
+					window := k >= 1 && k <= 5 && stride >= 1 && stride <= 4
+					conv := window && out >= 1 && out <= 8 && pad >= 0 && pad < k
+					if got := model.May(behind(0, api.Layer{Kind: api.LConv, Out: out, K: k, Stride: stride, Pad: pad})); got != conv {
+						t.Errorf("conv %d %d %d %d: %t", out, k, stride, pad, got)
+					}
+					pools := window && out == 0 && pad == 0
+					if got := model.May(behind(0, api.Layer{Kind: api.LMax + k%2, Out: out, K: k, Stride: stride, Pad: pad})); got != pools && k >= 0 {
+						t.Errorf("max or avg %d %d, with %d and %d: %t", k, stride, out, pad, got)
+					}
+				}
+			}
+		}
+	}
 	for _, n := range []int{1, 2, 4095, 4096} {
 		if !model.May(behind(0, api.Layer{Kind: api.LDense, Out: n})) {
 			t.Errorf("dense %d may not be", n)

@@ -119,7 +119,7 @@ func TestReaderKeepsToItself(t *testing.T) {
 	in[0], in[2] = 9, 9
 	got := r.Raw(2)
 	got[0] = 8
-	if got[1] != 2 || r.U8() != 3 || in[0] != 9 {
+	if more := append(got, 7); more[1] != 2 || r.U8() != 3 || in[0] != 9 {
 		t.Error("memory is shared")
 	}
 }

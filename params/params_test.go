@@ -3,25 +3,14 @@ package params_test
 import (
 	"math"
 	"slices"
-	"strings"
 	"testing"
 
 	"pedagogue/api"
-	"pedagogue/model"
 	"pedagogue/params"
 	"pedagogue/prng"
+	"pedagogue/sample"
 	"pedagogue/tensor"
 )
-
-// net is the net of a text whose lines have "; " between.
-func net(t *testing.T, text string) api.Model {
-	t.Helper()
-	m, line, e := model.Parse(strings.ReplaceAll(text, "; ", "\n") + "\n")
-	if e != api.OK {
-		t.Fatalf("%q: line %d, %d", text, line, e)
-	}
-	return m
-}
 
 func first(t *testing.T, m api.Model, seed uint64) []api.Param {
 	t.Helper()
@@ -34,11 +23,11 @@ func first(t *testing.T, m api.Model, seed uint64) []api.Param {
 
 // P17.1: Dims of each kind, of no layer, of what has no shapes, and of what is too great.
 func TestDims(t *testing.T) {
-	m := net(t, "in 2 5 4; conv 3 2 1 1; dense 4")
+	m := sample.Net("in 2 5 4; conv 3 2 1 1; dense 4")
 	if dims, biases := params.Dims(m, 1); len(dims) != 0 || biases != 0 {
 		t.Error("a net without shapes has Dims")
 	}
-	m = net(t, "in 2 5 4; conv 3 2 1 1 frozen; relu; max 2 2; avg 1 1; conv 2 1 1 0; flat; dense 4; relu; add 7; dense 3")
+	m = sample.Net("in 2 5 4; conv 3 2 1 1 frozen; relu; max 2 2; avg 1 1; conv 2 1 1 0; flat; dense 4; relu; add 7; dense 3")
 	known := map[int][]int{1: {3, 2, 2, 2}, 5: {2, 3, 1, 1}, 7: {4, 12}, 10: {3, 4}}
 	for layer := -1; layer <= 12; layer++ {
 		dims, biases := params.Dims(m, layer)
@@ -58,13 +47,13 @@ func TestDims(t *testing.T) {
 	if dims, biases := params.Dims(api.Model{}, 1); len(dims) != 0 || biases != 0 {
 		t.Error("no net has Dims")
 	}
-	m = net(t, "in 1 1 2; flat; dense 4096; dense 2; dense 3")
+	m = sample.Net("in 1 1 2; flat; dense 4096; dense 2; dense 3")
 	for layer, want := range map[int]int{2: 4096, 3: 2, 4: 3} {
 		if dims, biases := params.Dims(m, layer); biases != want || len(dims) != 2 || dims[0] != want {
 			t.Errorf("Dims of layer %d: %v, %d", layer, dims, biases)
 		}
 	}
-	m = net(t, "in 1 1 3; flat; dense 2731; dense 3; dense 4")
+	m = sample.Net("in 1 1 3; flat; dense 2731; dense 3; dense 4")
 	for layer, want := range map[int]int{2: 0, 3: 0, 4: 4} {
 		if dims, biases := params.Dims(m, layer); biases != want || len(dims) != min(want, 2) {
 			t.Errorf("Dims of layer %d: %v, %d", layer, dims, biases)
@@ -74,7 +63,7 @@ func TestDims(t *testing.T) {
 
 // P17.2: each weight by its place, in the layer's stream; the rest is 0.
 func TestInit(t *testing.T) {
-	m := net(t, "in 2 5 4; conv 3 2 1 1 frozen; relu; flat; dense 4; dense 3")
+	m := sample.Net("in 2 5 4; conv 3 2 1 1 frozen; relu; flat; dense 4; dense 3")
 	for _, seed := range []uint64{0, 1, 99, math.MaxUint64} {
 		p := first(t, m, seed)
 		if len(p) != 5 {
@@ -114,7 +103,7 @@ func TestInitErrors(t *testing.T) {
 		"in 8 16 16; conv 8 5 1 4; flat":      api.OK,
 	}
 	for text, want := range known {
-		p, e := params.Init(net(t, text), 1)
+		p, e := params.Init(sample.Net(text), 1)
 		if e != want || (e != api.OK) != (len(p) == 0) {
 			t.Errorf("Init of %q: %d Params, %d; want %d", text, len(p), e, want)
 		}
@@ -126,7 +115,7 @@ func TestInitErrors(t *testing.T) {
 
 // P17.1: what may be the weights of a net.
 func TestMay(t *testing.T) {
-	m := net(t, "in 2 2 2; conv 3 2 1 1; relu; flat; dense 4")
+	m := sample.Net("in 2 2 2; conv 3 2 1 1; relu; flat; dense 4")
 	changes := map[string]func(p []api.Param) []api.Param{
 		"fewer":              func(p []api.Param) []api.Param { return p[:3] },
 		"more":               func(p []api.Param) []api.Param { return append(p, api.Param{}) },
@@ -167,11 +156,11 @@ func TestMay(t *testing.T) {
 
 // P17.1: no weights may be those of a net without shapes, or with weights that are too many.
 func TestMayOfNoNet(t *testing.T) {
-	good := first(t, net(t, "in 1 1 2; flat; dense 3"), 1)
-	if params.May(net(t, "in 1 1 2; relu; dense 3"), good) || params.May(api.Model{}, nil) {
+	good := first(t, sample.Net("in 1 1 2; flat; dense 3"), 1)
+	if params.May(sample.Net("in 1 1 2; relu; dense 3"), good) || params.May(api.Model{}, nil) {
 		t.Error("weights of a net without shapes")
 	}
-	m := net(t, "in 1 1 3; flat; dense 2731")
+	m := sample.Net("in 1 1 3; flat; dense 2731")
 	for _, w := range []api.Tensor{{}, {Dims: []int{2731, 3}, Data: make([]int8, 3*2731)}} {
 		p := []api.Param{{}, {W: w, M: make([]int32, len(w.Data)), B: api.Tensor{Dims: []int{2731}, Data: make([]int8, 2731)}}}
 		if params.May(m, p) {
@@ -186,7 +175,7 @@ func TestMayOfNoNet(t *testing.T) {
 
 // P17.1: Same is alike in all.
 func TestSame(t *testing.T) {
-	m := net(t, "in 2 2 2; conv 3 2 1 1; relu; flat; dense 4")
+	m := sample.Net("in 2 2 2; conv 3 2 1 1; relu; flat; dense 4")
 	a := first(t, m, 5)
 	if !params.Same(a, first(t, m, 5)) || !params.Same(nil, []api.Param{}) || !params.Same([]api.Param{{}}, []api.Param{{M: []int32{}}}) {
 		t.Error("what is alike is not the same")
@@ -210,7 +199,7 @@ func TestSame(t *testing.T) {
 
 // P17.3: what is Init may be, and hangs on the seed alone.
 func TestInitMayBe(t *testing.T) {
-	m := net(t, "in 2 5 4; conv 3 2 1 1; relu; flat; dense 4; relu; add 4; dense 3")
+	m := sample.Net("in 2 5 4; conv 3 2 1 1; relu; flat; dense 4; relu; add 4; dense 3")
 	for seed := range uint64(20) {
 		p := first(t, m, seed)
 		if !params.May(m, p) || !params.Same(p, first(t, m, seed)) {
@@ -224,7 +213,7 @@ func TestInitMayBe(t *testing.T) {
 
 // R2: no two lists share memory.
 func TestInitIsNew(t *testing.T) {
-	p := first(t, net(t, "in 1 1 2; flat; dense 3"), 1)
+	p := first(t, sample.Net("in 1 1 2; flat; dense 3"), 1)
 	p[1].W.Dims[0], p[1].B.Dims[0] = 8, 9
 	if p[1].W.Dims[0] != 8 {
 		t.Error("Dims are shared")

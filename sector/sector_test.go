@@ -256,6 +256,42 @@ func TestBehindACrash(t *testing.T) {
 	holds(t, d, 0, full(1))
 }
 
+// P5.3: what is written behind a crash is not sure again.
+func TestWritesBehindACrash(t *testing.T) {
+	d := sector.New(2)
+	write(t, d, 0, 1)
+	d.Crash([]byte{2})
+	write(t, d, 0, 2)
+	write(t, d, 1, 3)
+	d.Crash([]byte{3, 1})
+	holds(t, d, 0, halves(2, 1))
+	holds(t, d, 1, full(0))
+	write(t, d, 0, 4)
+	d.Crash(nil)
+	holds(t, d, 0, halves(2, 1))
+}
+
+// P5.3: a copy's writes that are not sure are its own, however many there are.
+func TestCopyOfWritesThatAreNotSure(t *testing.T) {
+	for n := range 20 {
+		d := sector.New(3)
+		for range n {
+			write(t, d, 0, 1)
+		}
+		c := d.Copy()
+		write(t, d, 1, 2)
+		write(t, c, 2, 3)
+		write(t, d, 1, 4)
+		picks := bytes.Repeat([]byte{2}, n+2)
+		c.Crash(picks)
+		d.Crash(picks)
+		holds(t, d, 1, full(4))
+		holds(t, d, 2, full(0))
+		holds(t, c, 1, full(0))
+		holds(t, c, 2, full(3))
+	}
+}
+
 // P5.3: a copy is alike in all, and its own.
 func TestCopy(t *testing.T) {
 	d := sector.New(2)

@@ -187,6 +187,17 @@ func TestNextTellsTheFirstError(t *testing.T) {
 	if got, e := trainer.Next(k.m, k.d, k.h, s); e != api.ErrBound || !codec.Same(got, api.State{}) {
 		t.Errorf("exponents that are too great: %d", e)
 	}
+	small := small()
+	s = small.first(t)
+	s.Params[1].W.Exp, s.Params[3].W.Exp = 30, -64
+	if got, e := trainer.Next(small.m, small.d, small.h, s); e != api.ErrBound || !codec.Same(got, api.State{}) {
+		t.Errorf("exponents that are too small on the way back: %d", e)
+	}
+	s = small.first(t)
+	s.Params[1].W.Exp, s.Params[3].W.Exp, small.d.Exp = 30, -30, -64
+	if got, e := trainer.Next(small.m, small.d, small.h, s); e != api.ErrBound || !codec.Same(got, api.State{}) {
+		t.Errorf("exponents that are too small to move by: %d", e)
+	}
 }
 
 // R2: Next changes nothing that is handed in, and shares nothing with it.
@@ -303,8 +314,13 @@ func TestTrainerKeepsToItself(t *testing.T) {
 	want := k.line(t, 5)
 	tr := k.start(t)
 	k.m.Layers[1].Out = 7
-	k.d.Examples[0].Data[0]++
-	k.d.Examples[1] = k.d.Examples[0]
+	for i := range k.d.Examples {
+		for n := range k.d.Examples[i].Data {
+			k.d.Examples[i].Data[n] ^= 64
+		}
+	}
+	k.d.Examples[1].Label ^= 1
+	does(t, tr, train(2), 2, api.OK)
 	for range 2 {
 		s := tr.State()
 		for _, p := range s.Params {
@@ -316,7 +332,7 @@ func TestTrainerKeepsToItself(t *testing.T) {
 		}
 		clear(s.Params)
 	}
-	does(t, tr, train(5), 5, api.OK)
+	does(t, tr, train(3), 3, api.OK)
 	stands(t, tr, want[5])
 	does(t, tr, crash(), 0, api.OK)
 	stands(t, tr, want[0])
